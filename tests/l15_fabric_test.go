@@ -152,6 +152,27 @@ func netFits(c impl.Config, net []impl.Msg) bool {
 	return len(net) <= 60
 }
 
+func opRight(o impl.Op) bool {
+	for _, r := range opRows {
+		if r.kind == o.Kind {
+			return o.Addr >= 0 && o.Addr <= 31 && fieldRight(o.A, r.hasA) && fieldRight(o.B, r.hasB)
+		}
+	}
+	return false
+}
+
+func eventRight(e impl.Event) bool {
+	switch e.Agent {
+	case 0, 1, 2, 3:
+		return opRight(e.Op) && e.Line == 0 && e.Mask == 0 && len(e.Data) == 0
+	case 5:
+		return e.Op == (impl.Op{}) && e.Line >= 0 && e.Line <= 15 && e.Mask >= 0 && e.Mask <= 3 && rightWords(e.Data) && e.Told == 0
+	}
+	return false
+}
+
+func eventWrong(e impl.Event) bool { return !eventRight(e) }
+
 func fabricRight(f impl.Fabric) bool {
 	if !layoutRight(f.Config) || !houseFits(f.Config, f.House) || int64(len(f.Cores)) != f.Config.Cores {
 		return false
@@ -161,7 +182,7 @@ func fabricRight(f impl.Fabric) bool {
 			return false
 		}
 	}
-	return dmaFits(f.Config, f.Dma) && netFits(f.Config, f.Net) && len(f.Events) <= 200
+	return dmaFits(f.Config, f.Dma) && netFits(f.Config, f.Net) && len(f.Events) <= 200 && !slices.ContainsFunc(f.Events, eventWrong)
 }
 
 // coreDid is the Event of an op that brought a core to its next one.
@@ -853,11 +874,11 @@ func TestFabricOfEachCountOfLetters(t *testing.T) {
 	}
 }
 
-// someEvents are this many, of whatever is in them: of Events nothing is asked but how many there are.
+// someEvents are this many right ones, some of a core or of a line that a small layout does not have.
 func someEvents(count int) []impl.Event {
 	kinds := []impl.Event{
 		{Agent: 1, Op: store(3)}, {Agent: 5, Line: 2, Mask: 3, Data: []int64{5, 6}}, {Agent: 0, Op: load(1), Told: 77}, {Agent: 5, Line: 1, Data: []int64{0, 9999}},
-		{}, {Agent: 3, Op: load(31)}, {Agent: -9, Op: impl.Op{Kind: 9}, Line: 99, Mask: 9, Data: []int64{1, 2, 3}, Told: math.MinInt64},
+		{Agent: 3, Op: load(31)}, {Agent: 5, Line: 15, Mask: 1, Data: []int64{9999, 0}}, {Agent: 2, Op: impl.Op{Kind: impl.OpCas, Addr: 9, A: 9999, B: 1}, Told: math.MinInt64},
 	}
 	var list []impl.Event
 	for i := range count {
@@ -876,6 +897,147 @@ func TestFabricOfEachCountOfEvents(t *testing.T) {
 		f := mixedFabric()
 		f.Events = someEvents(count)
 		checkNoFabric(t, "too many Events", f)
+	}
+}
+
+// wrongEvent is one that would be right but for this.
+type wrongEvent struct {
+	why string
+	e   impl.Event
+}
+
+// wrongFabricEvents has Events that are none, for each reason.
+func wrongFabricEvents() []wrongEvent {
+	words := []int64{1, 2}
+	rows := []wrongEvent{
+		{"the zero Event", impl.Event{}},
+		{"of a core and of the DMA at once", impl.Event{Agent: 0, Op: store(1), Line: 1, Mask: 1, Data: words}},
+		{"of the DMA, a core's", impl.Event{Agent: 5, Op: store(1), Told: 1}},
+		{"of a core, the DMA's", impl.Event{Agent: 0, Line: 1, Mask: 1, Data: words}},
+		{"of a core, no Op but something told", impl.Event{Agent: 1, Told: 5}},
+		{"of the DMA, nothing", impl.Event{Agent: 5}},
+		{"of the DMA, a write without Data", impl.Event{Agent: 5, Line: 1, Mask: 3}},
+	}
+	for _, agent := range slices.Concat(farFields, []int64{-3, -5, 4, 6, 7, 8, 15}) {
+		rows = append(rows, wrongEvent{"of nobody, as of a core", impl.Event{Agent: agent, Op: store(1)}},
+			wrongEvent{"of nobody, as a read of the DMA", impl.Event{Agent: agent, Line: 1, Data: words}},
+			wrongEvent{"of nobody, as a write of the DMA", impl.Event{Agent: agent, Line: 1, Mask: 1, Data: words}})
+	}
+	for id := range int64(4) {
+		for _, o := range wrongOps {
+			rows = append(rows, wrongEvent{"of a core, an Op that is none", impl.Event{Agent: id, Op: o}})
+		}
+		for _, n := range slices.Concat(farFields, []int64{1, 15}) {
+			rows = append(rows, wrongEvent{"of a core, with a Line", impl.Event{Agent: id, Op: load(1), Line: n}}, wrongEvent{"of a core, with a Mask", impl.Event{Agent: id, Op: load(1), Mask: n}})
+		}
+		for _, l := range [][]int64{words, {0, 0}, {0}, {1, 2, 3}} {
+			rows = append(rows, wrongEvent{"of a core, with Data", impl.Event{Agent: id, Op: load(1), Data: l}})
+		}
+	}
+	for mask := range int64(4) {
+		right := impl.Event{Agent: 5, Line: 4, Mask: mask, Data: words}
+		for _, o := range slices.Concat(wrongOps[1:], []impl.Op{load(0), store(9), {Addr: 1}, {A: 1}, {B: 1}}) {
+			e := right
+			e.Op = o
+			rows = append(rows, wrongEvent{"of the DMA, with an Op", e})
+		}
+		for _, n := range slices.Concat(farNumbers, []int64{-1, 1, 9999}) {
+			e := right
+			e.Told = n
+			rows = append(rows, wrongEvent{"of the DMA, with what an Op told", e})
+		}
+		for _, n := range noLineNumbers {
+			e := right
+			e.Line = n
+			rows = append(rows, wrongEvent{"of the DMA, a Line that is none", e})
+		}
+		for l := range noLines {
+			e := right
+			e.Data = l
+			rows = append(rows, wrongEvent{"of the DMA, Data that is no line", e})
+		}
+	}
+	for _, n := range wrongMasks {
+		rows = append(rows, wrongEvent{"of the DMA, a Mask that is none", impl.Event{Agent: 5, Line: 4, Mask: n, Data: words}})
+	}
+	return rows
+}
+
+// One Event that is none makes the fabric wrong, wherever it stands: alone, first, amidst others, last of several, and last of as many as there may be.
+func TestFabricOfWrongEvents(t *testing.T) {
+	for i, r := range wrongFabricEvents() {
+		places := [][2]int{{1, 0}, {3, 2}}
+		if i%10 == 0 {
+			places = append(places, [2]int{3, 0}, [2]int{3, 1}, [2]int{200, 100}, [2]int{200, 199})
+		}
+		for _, place := range places {
+			f := mixedFabric()
+			f.Events = someEvents(place[0])
+			checkFabricOk(t, f, true)
+			f.Events[place[1]] = r.e
+			checkNoFabric(t, fmt.Sprintf("Event %d of %d %s", place[1], place[0], r.why), f)
+		}
+	}
+	f := mixedFabric()
+	f.Events = append(someEvents(200), impl.Event{})
+	checkNoFabric(t, "one too many, which is none", f)
+}
+
+// Each field of an Event with each other one: just what the chapter tells of a core, or of the DMA, is an Event.
+func TestFabricOfEachEvent(t *testing.T) {
+	f := newBy(impl.Config{Cores: 1, Sets: 1, Ways: 1, Lines: 1}, [][]impl.Op{{load(0)}}, nil)
+	seen := map[bool]int{}
+	for agent := int64(-1); agent <= 7; agent++ {
+		for _, o := range []impl.Op{{}, load(0), load(31), {Kind: impl.OpCas, Addr: 3, A: 9999, B: 9999}, load(32), {Kind: 9}, {Addr: 1}} {
+			for _, line := range []int64{-1, 0, 1, 15, 16} {
+				for mask := int64(-1); mask <= 4; mask++ {
+					for _, words := range [][]int64{nil, {}, {0, 0}, {9999, 1}, {1}, {1, 10000}} {
+						for _, said := range []int64{0, 1, -1} {
+							e := impl.Event{Agent: agent, Op: o, Line: line, Mask: mask, Data: words, Told: said}
+							f.Events = []impl.Event{e}
+							want := eventRight(e)
+							seen[want]++
+							if impl.FabricOk(f) != want {
+								t.Fatalf("%+v is an Event: %v", e, !want)
+							}
+						}
+					}
+				}
+			}
+		}
+	}
+	if seen[true] != 4*3*2*3+3*4*2 {
+		t.Errorf("%d are Events", seen[true])
+	}
+}
+
+// Of the layout nothing is asked of an Event, nor of the number that was told: of any core, any address and any line, whatever the Cores and Lines are.
+func TestFabricOfEventsOutOfTheLayout(t *testing.T) {
+	var list []impl.Event
+	for id := range int64(4) {
+		for r, o := range someOps {
+			if r.hasB && o.A != 9999 {
+				continue
+			}
+			list = append(list, impl.Event{Agent: id, Op: o, Told: farNumbers[len(list)%len(farNumbers)]})
+		}
+	}
+	for line := range int64(16) {
+		for mask := range int64(4) {
+			for l := range someLines {
+				list = append(list, impl.Event{Agent: 5, Line: line, Mask: mask, Data: l})
+			}
+		}
+	}
+	for _, c := range []impl.Config{{Cores: 1, Sets: 1, Ways: 1, Lines: 1}, {Cores: 2, Sets: 1, Ways: 1, Lines: 2}, {Cores: 4, Sets: 4, Ways: 4, Lines: 16}} {
+		f := newBy(c, slices.Repeat([][]impl.Op{{load(0)}}, int(c.Cores)), nil)
+		for part := range slices.Chunk(list, 200) {
+			f.Events = eventsCopy(part)
+			checkFabricOk(t, f, true)
+			stopIfFailed(t)
+		}
+		f.Events = eventsCopy(list[len(list)-199:])
+		checkFabric(t, f)
 	}
 }
 
